@@ -8,6 +8,7 @@ import (
 	"testing"
 
 	"artesian/api"
+	"artesian/loan"
 )
 
 // behind and weighsBehind are what stands in the spare room of what is handed in, and must be found there again.
@@ -15,25 +16,6 @@ const (
 	behind       = 0x5a
 	weighsBehind = 0x5a5a
 )
-
-// lend tells a list with spare room behind it that is filled.
-func lend[E any](list []E, filled E) []E {
-	whole := append(slices.Clone(list), slices.Repeat([]E{filled}, 24)...)
-	return whole[:len(list)]
-}
-
-// touched tells whether what was lent, or its spare room, is no longer what it was.
-func touched[E comparable](lent, was []E, filled E) bool {
-	whole := lent[:len(lent)+24]
-	return !slices.Equal(whole[:len(lent)], was) || !slices.Equal(whole[len(lent):], slices.Repeat([]E{filled}, 24))
-}
-
-// scribble writes over a list, and over its spare room.
-func scribble[E any](list []E, over E) {
-	for i := range list[:cap(list)] {
-		list[:cap(list)][i] = over
-	}
-}
 
 // someNumber tells a number from low to high, at an end or near one more often than even draws would.
 func someNumber(r *rand.Rand, low, high int) int {
@@ -274,19 +256,19 @@ func TestWhatMayNotBeIsToldFirst(t *testing.T) {
 func TestTablesStay(t *testing.T) {
 	tables := [][]int{nil, {0}, {1}, {1, 1}, {1, -1}, {3, 2, 1}, {0, mostWeight + 1}, table(1000, 5), table(mostTable, 0), table(mostTable+1, 0)}
 	for _, weighs := range tables {
-		m := api.Manifest{Size: 10, Symbol: 2, K: mostK, Seed: 7, Table: lend(weighs, weighsBehind)}
+		m := api.Manifest{Size: 10, Symbol: 2, K: mostK, Seed: 7, Table: loan.Of(weighs, weighsBehind)}
 		right, rightErr := Put(m)
 		right = slices.Clone(right)
 		check, count := Check(m), Blocks(m)
 		Part(m, 0)
 		again, _ := Put(m)
-		scribble(again, 0xee)
-		if touched(m.Table, weighs, weighsBehind) {
+		loan.Scribble(again, 0xee)
+		if loan.Touched(m.Table, weighs, weighsBehind) {
 			t.Errorf("a table of %d weights was changed", len(weighs))
 		}
 		// What is changed in it later changes no answer of another one's.
-		scribble(m.Table, -1)
-		m.Table = lend(weighs, weighsBehind)
+		loan.Scribble(m.Table, -1)
+		m.Table = loan.Of(weighs, weighsBehind)
 		if got, err := Put(m); err != rightErr || !bytes.Equal(got, right) || Check(m) != check || Blocks(m) != count {
 			t.Errorf("a table of %d weights was kept", len(weighs))
 		}
@@ -297,17 +279,17 @@ func TestBytesStay(t *testing.T) {
 	for _, m := range plain() {
 		whole := laid(m)
 		for _, b := range [][]byte{whole, whole[:len(whole)-1], whole[:20], whole[:19], nil, append(slices.Clone(whole), 0)} {
-			lent := lend(b, behind)
+			lent := loan.Of(b, behind)
 			got, err := Get(lent)
 			if (err == api.OK) != (len(b) == len(whole)) {
 				t.Errorf("Get of %d: %v", brief(b), err)
 			}
-			scribble(got.Table, -1)
-			if touched(lent, b, behind) {
+			loan.Scribble(got.Table, -1)
+			if loan.Touched(lent, b, behind) {
 				t.Errorf("Get of %d bytes changed or handed out them", len(b))
 			}
 			again, _ := Get(lent)
-			scribble(lent, 0xee)
+			loan.Scribble(lent, 0xee)
 			if err == api.OK && !same(again, m) {
 				t.Errorf("Get of %d bytes kept them", len(b))
 			}
@@ -319,18 +301,18 @@ func TestAnswersShareNothing(t *testing.T) {
 	for _, m := range plain() {
 		one, two := put(t, m), put(t, m)
 		right := slices.Clone(two)
-		scribble(one, 0xee)
+		loan.Scribble(one, 0xee)
 		if !bytes.Equal(two, right) {
 			t.Errorf("two answers of Put(%v) share memory", short(m))
 		}
 		first, _ := Get(right)
 		second, _ := Get(right)
-		scribble(first.Table, -1)
+		loan.Scribble(first.Table, -1)
 		if !same(second, m) {
 			t.Errorf("two answers of Get of %v's bytes share memory", short(m))
 		}
 		wantGet(t, right, m)
-		scribble(two, 0xee)
+		loan.Scribble(two, 0xee)
 		if !bytes.Equal(put(t, m), right) {
 			t.Errorf("what Put(%v) told was changed, and so is what it tells", short(m))
 		}
